@@ -1,0 +1,45 @@
+"""How values are handed in and given back: as whole numbers in a row."""
+
+from rootnumbers.ratio import whole_divisor
+
+# A numerator or a denominator of this size or more is refused.
+SIZE_LIMIT = 1000000
+MOST_COEFFICIENTS = 9
+
+
+def is_fraction(top, bottom):
+    """Whether this is a fraction as it may be handed in."""
+    if bottom < 1 or bottom >= SIZE_LIMIT or abs(top) >= SIZE_LIMIT:
+        return False
+    return whole_divisor(top, bottom) == 1
+
+
+def is_polynomial(numbers):
+    """Whether this is a polynomial as it may be handed in."""
+    if numbers == []:
+        return True
+    if len(numbers) % 2 == 1 or len(numbers) > 2 * MOST_COEFFICIENTS or numbers[-2] == 0:
+        return False
+    return all([is_fraction(top, bottom) for top, bottom in coefficients_of(numbers)])
+
+
+def coefficients_of(numbers):
+    """The pairs of numerator and denominator; a copy, so what was handed in stays as it was."""
+    return [(numbers[k], numbers[k + 1]) for k in range(0, len(numbers), 2)]
+
+
+def polynomial_told(p):
+    """How many coefficients, then each of them."""
+    told = [len(p)]
+    for top, bottom in p:
+        told.append(top)
+        told.append(bottom)
+    return told
+
+
+def answered(numbers):
+    return [0] + numbers
+
+
+def refused(reason):
+    return [9, reason]
