@@ -1,14 +1,7 @@
 """Polynomials: lists of fractions from the constant on, the last not 0; the empty list is 0."""
 
-from rootnumbers.ratio import ZERO, added, less, over, times, whole_divisor
-
-
-def trimmed(coefficients):
-    """A copy without the zeros at its end."""
-    size = len(coefficients)
-    while size > 0 and coefficients[size - 1] == ZERO:
-        size = size - 1
-    return coefficients[:size]
+from rootnumbers.ratio import ONE, ZERO, added, less, negative, over, raised, times, whole_divisor
+from rootnumbers.whole import square_free, trimmed, whole_common_divisor
 
 
 def lengthened(p, size):
@@ -18,12 +11,12 @@ def lengthened(p, size):
 
 def poly_sum(p, q):
     size = max(len(p), len(q))
-    return trimmed([added(a, b) for a, b in zip(lengthened(p, size), lengthened(q, size))])
+    return trimmed([added(a, b) for a, b in zip(lengthened(p, size), lengthened(q, size))], ZERO)
 
 
 def poly_difference(p, q):
     size = max(len(p), len(q))
-    return trimmed([less(a, b) for a, b in zip(lengthened(p, size), lengthened(q, size))])
+    return trimmed([less(a, b) for a, b in zip(lengthened(p, size), lengthened(q, size))], ZERO)
 
 
 def poly_product(p, q):
@@ -45,7 +38,7 @@ def quotient_and_rest(p, q):
         quotient[shift] = factor
         for k, b in enumerate(q):
             rest[shift + k] = less(rest[shift + k], times(factor, b))
-    return (quotient, trimmed(rest))
+    return (quotient, trimmed(rest, ZERO))
 
 
 def content(p):
@@ -64,21 +57,31 @@ def divided_by(p, number):
     return [over(a, number) for a in p]
 
 
+def whole_part(p):
+    """The part of p (not 0), as whole coefficients."""
+    return [top for top, bottom in divided_by(p, content(p))]
+
+
+def of_whole(p):
+    """A polynomial with whole coefficients as one with fractions."""
+    return [(a, 1) for a in p]
+
+
 def part(p):
     """The primitive polynomial of p, which is not 0."""
-    return divided_by(p, content(p))
+    return of_whole(whole_part(p))
 
 
 def common_divisor(p, q):
     """The common divisor, with lead 1; of 0 and 0 it is 0."""
-    left = p
-    right = q
-    while right != []:
-        rest = quotient_and_rest(left, right)[1]
-        left = right
-        # A fraction times the rest serves as well, and its part keeps the coefficients from growing with each step.
-        right = rest if rest == [] else part(rest)
-    return left if left == [] else divided_by(left, left[-1])
+    longer = p if len(p) >= len(q) else q
+    shorter = q if len(p) >= len(q) else p
+    if longer == []:
+        return []
+    divisor = longer
+    if shorter != []:
+        divisor = of_whole(whole_common_divisor(whole_part(longer), whole_part(shorter)))
+    return divided_by(divisor, divisor[-1])
 
 
 def derivative(p):
@@ -87,7 +90,7 @@ def derivative(p):
 
 def square_free_part(p):
     """The part of p (not 0) over the common divisor of p and its derivative."""
-    return part(quotient_and_rest(p, common_divisor(p, derivative(p)))[0])
+    return of_whole(square_free(whole_part(p)))
 
 
 def value_at(p, place):
@@ -96,3 +99,25 @@ def value_at(p, place):
     for a in reversed(p):
         value = added(times(value, place), a)
     return value
+
+
+def poly_resultant(p, q):
+    """0 if one is 0; else p's lead to the degree of q, times the product of q's values at the roots of p."""
+    if p == [] or q == []:
+        return ZERO
+    left = p
+    right = q
+    factor = ONE
+    while len(right) > 1:
+        rest = quotient_and_rest(left, right)[1]
+        if rest == []:
+            return ZERO
+        # Left may change places with right, and then be replaced by its rest: it has the same values at right's roots.
+        if len(left) % 2 == 0 and len(right) % 2 == 0:
+            factor = negative(factor)
+        factor = times(factor, raised(right[-1], len(left) - len(rest)))
+        left = right
+        # The rest's own fraction is told apart, which keeps the coefficients from growing with each step.
+        factor = times(factor, raised(content(rest), len(left) - 1))
+        right = part(rest)
+    return times(factor, raised(right[0], len(left) - 1))

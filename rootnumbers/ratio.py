@@ -1,6 +1,7 @@
 """Fractions: pairs of a numerator and a denominator above 0, in lowest terms."""
 
 ZERO = (0, 1)
+ONE = (1, 1)
 
 
 def whole_divisor(a, b):
@@ -12,6 +13,14 @@ def whole_divisor(a, b):
         left = right
         right = rest
     return left
+
+
+def whole_power(base, exponent):
+    """A whole number to an exponent from 0 on."""
+    power = 1
+    for step in range(exponent):
+        power = power * base
+    return power
 
 
 def lowest(top, bottom):
@@ -37,3 +46,12 @@ def times(a, b):
 def over(a, b):
     """a divided by b; b is not 0."""
     return lowest(a[0] * b[1], a[1] * b[0])
+
+
+def negative(a):
+    return (-a[0], a[1])
+
+
+def raised(a, exponent):
+    """a to an exponent from 0 on; powers of a fraction in lowest terms are so too."""
+    return (whole_power(a[0], exponent), whole_power(a[1], exponent))

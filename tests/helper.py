@@ -1,6 +1,7 @@
 """What the tests share: polynomials as lists of Fraction, reckoned apart from the program."""
 
 from fractions import Fraction
+from math import gcd
 
 BIG = 999999
 
@@ -49,6 +50,32 @@ def total(p, q):
     while result and result[-1] == 0:
         result.pop()
     return result
+
+
+def value(p, place):
+    """The value of a polynomial at a fraction."""
+    return sum([Fraction(a) * Fraction(place) ** k for k, a in enumerate(p)], Fraction(0))
+
+
+def common(p, q):
+    """The common divisor of two polynomials, with lead 1; of 0 and 0 it is 0."""
+    left, right = [Fraction(a) for a in p], [Fraction(a) for a in q]
+    while right:
+        while len(left) >= len(right):
+            shifted = [Fraction(0)] * (len(left) - len(right)) + right
+            left = total(left, product(shifted, [-left[-1] / right[-1]]))
+        left, right = right, left
+    return [a / left[-1] for a in left]
+
+
+def is_square_free(p):
+    return len(common(p, [k * Fraction(a) for k, a in enumerate(p)][1:])) == 1
+
+
+def is_primitive(p):
+    fractions = [Fraction(a) for a in p]
+    whole = all(a.denominator == 1 for a in fractions)
+    return whole and gcd(*[a.numerator for a in fractions]) == 1 and fractions[-1] > 0
 
 
 def read(answer):

@@ -66,6 +66,14 @@ class Form(unittest.TestCase):
                 self.assertEqual(node.decorator_list, [], name)
             if isinstance(node, ast.Constant):
                 self.assertIn(type(node.value), (int, str, bool, type(None)), name)
+                self.assertNotIn("%", str(node.value), name)
+            if isinstance(node, ast.BinOp) and isinstance(node.op, ast.Pow):
+                self.assertIsInstance(node.right, ast.Constant, name)
+            if isinstance(node, ast.Compare) and isinstance(node.ops[0], (ast.Is, ast.IsNot)):
+                self.assertIn(ast.unparse(node.comparators[0]), ("None", "True", "False"), name)
+            if isinstance(node, ast.ListComp):
+                self.assertEqual(len(node.generators), 1, name)
+                self.assertLessEqual(len(node.generators[0].ifs), 1, name)
 
     def test_names(self):
         own = set(dir(builtins))
@@ -81,6 +89,22 @@ class Form(unittest.TestCase):
                 self.assertNotIn(word, own, name)
             if isinstance(node, ast.Attribute):
                 self.assertIn(node.attr, METHODS, name)
+
+    def test_each_name_once(self):
+        for name, text in texts():
+            tree = ast.parse(text)
+            drawn = [each.name for node in tree.body if isinstance(node, ast.ImportFrom) for each in node.names]
+            defs = [node.name for node in tree.body if isinstance(node, ast.FunctionDef)]
+            values = [node.targets[0].id for node in tree.body if isinstance(node, ast.Assign)]
+            bound = drawn + defs + values
+            self.assertEqual(sorted(bound), sorted(set(bound)), name)
+            # What is bound within the defs may not be called like what the file draws, nor stand for a def of its own.
+            inner = [node for each in tree.body if isinstance(each, ast.FunctionDef) for node in ast.walk(each)]
+            words = {node.arg for node in inner if isinstance(node, ast.arg)}
+            words |= {node.id for node in inner if isinstance(node, ast.Name) and isinstance(node.ctx, ast.Store)}
+            self.assertEqual(words & set(bound), set(), name)
+            used = {node.id for node in ast.walk(tree) if isinstance(node, ast.Name)}
+            self.assertEqual(set(drawn) - used, set(), name)
 
     def test_imports(self):
         drawn = {}

@@ -2,7 +2,7 @@
 
 import unittest
 
-from rootnumbers.roots import at, one, two
+from rootnumbers.roots import at, count, one, resultant, rows, two
 from tests.helper import SAMPLES, flat
 
 
@@ -28,6 +28,10 @@ def calls():
         yield 1, lambda p, op=op: one(op, p)
     for top, bottom in ((0, 1), (-2, 3), (2, 4), (1, 0)):
         yield 1, lambda p, top=top, bottom=bottom: at(top, bottom, p)
+        yield 1, lambda p, top=top, bottom=bottom: count(-5, 1, top, bottom, p)
+        yield 1, lambda p, top=top, bottom=bottom: count(top, bottom, 5, 1, p)
+    yield 2, resultant
+    yield 1, rows
 
 
 def every_case():
@@ -54,6 +58,10 @@ class Kept(unittest.TestCase):
                 both = list(numbers)
                 self.assertEqual(two(op, both, both), two(op, list(numbers), list(numbers)))
                 self.assertEqual(both, numbers)
+        for numbers in LISTS:
+            both = list(numbers)
+            self.assertEqual(resultant(both, both), resultant(list(numbers), list(numbers)))
+            self.assertEqual(both, numbers)
 
     def test_nothing_is_kept(self):
         for call, lists in every_case():

@@ -1,8 +1,8 @@
-"""What is refused 1, of each argument of each call, and that it is refused 1 ahead of 2."""
+"""What is refused 1, of each argument of each call, and that it is refused 1 ahead of all else."""
 
 import unittest
 
-from rootnumbers.roots import at, one, two
+from rootnumbers.roots import at, count, one, resultant, rows, two
 from tests.helper import flat
 
 GOOD = flat(1, "2/3", -4)
@@ -37,53 +37,64 @@ def bad_polynomials():
     bad.append([1, 1, 0, 1])
     bad.append([1, 2, 3, 1, 0, 1, 0, 1])
     bad.append([1, 1] * 9 + [0, 1])
+    # half a coefficient
+    bad.append([1])
+    bad.append([1, 1, 1])
+    bad.append([0, 1, 1])
     return bad
 
 
-class Ops(unittest.TestCase):
-    def test_two(self):
-        for op in (6, 7, 8, 9, 256, 4294967295):
-            self.assertEqual(two(op, GOOD, GOOD), [9, 1])
+# Each argument's sort: an op up to a greatest one, the two numbers of a fraction, a polynomial.
+CALLS = [
+    (two, (("op", 5), ("polynomial",), ("polynomial",))),
+    (one, (("op", 2), ("polynomial",))),
+    (at, (("fraction",), ("polynomial",))),
+    (resultant, (("polynomial",), ("polynomial",))),
+    (rows, (("polynomial",),)),
+    (count, (("fraction",), ("fraction",), ("polynomial",))),
+]
+
+
+def bad_ones(sort):
+    """What may not stand at an argument of this sort, as rows of whole arguments."""
+    if sort[0] == "op":
+        return [[sort[1] + 1], [sort[1] + 2], [256], [4294967295]]
+    if sort[0] == "fraction":
+        return [list(pair) for pair in BAD_FRACTIONS]
+    return [[numbers] for numbers in bad_polynomials()]
+
+
+def good_ones(sort):
+    """What may stand there; the last of them leads to a later refusal where there is one."""
+    if sort[0] == "op":
+        return [[0], [sort[1]]]
+    if sort[0] == "fraction":
+        return [[-1, 2], [0, 1]]
+    return [[GOOD], [[]]]
+
+
+class RefusedOne(unittest.TestCase):
+    def test_each_argument(self):
+        for call, sorts in CALLS:
+            for choice in (0, -1):
+                for place, sort in enumerate(sorts):
+                    for bad in bad_ones(sort):
+                        given = [good_ones(each)[choice] for each in sorts]
+                        given[place] = bad
+                        self.assertEqual(call(*sum(given, [])), [9, 1], (call.__name__, given))
+
+    def test_all_arguments(self):
+        for call, sorts in CALLS:
+            self.assertEqual(call(*sum([bad_ones(sort)[0] for sort in sorts], [])), [9, 1])
+
+    def test_good_ones_are_taken(self):
+        for call, sorts in CALLS:
+            self.assertEqual(call(*sum([good_ones(sort)[0] for sort in sorts], []))[0], 0, call.__name__)
+
+    def test_ops(self):
         for op in range(6):
             self.assertEqual(two(op, GOOD, GOOD)[0], 0)
-
-    def test_one(self):
-        for op in (3, 4, 5, 6, 256, 4294967295):
-            self.assertEqual(one(op, GOOD), [9, 1])
-        for op in range(3):
-            self.assertEqual(one(op, GOOD)[0], 0)
-
-
-class Polynomials(unittest.TestCase):
-    def test_two(self):
-        for bad in bad_polynomials():
-            for op in range(6):
-                self.assertEqual(two(op, bad, GOOD), [9, 1])
-                self.assertEqual(two(op, GOOD, bad), [9, 1])
-                self.assertEqual(two(op, bad, bad), [9, 1])
-
-    def test_one(self):
-        for bad in bad_polynomials():
-            for op in range(3):
-                self.assertEqual(one(op, bad), [9, 1])
-
-    def test_at(self):
-        for bad in bad_polynomials():
-            self.assertEqual(at(1, 2, bad), [9, 1])
-
-    def test_half_a_coefficient(self):
-        for bad in ([1], [1, 1, 1], [0, 1, 1]):
-            self.assertEqual(two(0, bad, GOOD), [9, 1])
-            self.assertEqual(two(0, GOOD, bad), [9, 1])
-            self.assertEqual(one(0, bad), [9, 1])
-            self.assertEqual(at(0, 1, bad), [9, 1])
-
-
-class Fractions(unittest.TestCase):
-    def test_at(self):
-        for top, bottom in BAD_FRACTIONS:
-            for p in (GOOD, []):
-                self.assertEqual(at(top, bottom, p), [9, 1])
+            self.assertEqual(one(op, GOOD)[0], 0 if op < 3 else 9)
 
 
 class StillTaken(unittest.TestCase):
@@ -95,6 +106,10 @@ class StillTaken(unittest.TestCase):
             self.assertEqual(one(0, [0, 1] + p), [0, 1, top, bottom])
             self.assertEqual(at(0, 1, p), [0, top, bottom])
             self.assertEqual(at(top, bottom, [0, 1, 1, 1]), [0, top, bottom])
+            self.assertEqual(resultant(p, [1, 1, 1, 1]), [0, top, bottom])
+            self.assertEqual(resultant([1, 1, 1, 1], p), [0, top, bottom])
+            self.assertEqual(rows(p), [0, top, bottom, 0])
+            self.assertEqual(count(top, bottom, top, bottom, p), [0, 0])
 
     def test_nine_coefficients(self):
         p = [1, 1] * 9
@@ -102,6 +117,10 @@ class StillTaken(unittest.TestCase):
         self.assertEqual(two(0, [], p), [0, 9] + p)
         self.assertEqual(one(1, p), [0, 9] + p)
         self.assertEqual(at(1, 1, p), [0, 9, 1])
+        self.assertEqual(resultant(p, [-1, 1, 1, 1]), [0, 9, 1])
+        self.assertEqual(resultant([-1, 1, 1, 1], p), [0, 9, 1])
+        self.assertEqual(rows(p), [0, 1, 1, 1, 1, 9] + p)
+        self.assertEqual(count(-9, 1, 9, 1, p), [0, 0])
 
 
 class OneAheadOfTwo(unittest.TestCase):
@@ -118,6 +137,14 @@ class OneAheadOfTwo(unittest.TestCase):
             self.assertEqual(one(op, []), [9, 2])
             self.assertEqual(one(op, [0, 1]), [9, 1])
         self.assertEqual(one(3, []), [9, 1])
+
+    def test_rows_and_count(self):
+        self.assertEqual(rows([]), [9, 2])
+        self.assertEqual(rows([0, 1]), [9, 1])
+        self.assertEqual(count(0, 1, 1, 1, []), [9, 2])
+        for top, bottom in BAD_FRACTIONS:
+            self.assertEqual(count(top, bottom, 1, 1, []), [9, 1])
+            self.assertEqual(count(0, 1, top, bottom, []), [9, 1])
 
 
 if __name__ == "__main__":
