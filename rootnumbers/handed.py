@@ -5,6 +5,7 @@ from rootnumbers.ratio import whole_divisor
 # A numerator or a denominator of this size or more is refused.
 SIZE_LIMIT = 1000000
 MOST_COEFFICIENTS = 9
+MOST_ROOT = 1000
 
 
 def is_fraction(top, bottom):
@@ -23,6 +24,11 @@ def is_polynomial(numbers):
     return all([is_fraction(top, bottom) for top, bottom in coefficients_of(numbers)])
 
 
+def is_root(root, numbers):
+    """Whether this is a number's root and polynomial as they may be handed in, be there such a root or not."""
+    return root <= MOST_ROOT and is_polynomial(numbers)
+
+
 def coefficients_of(numbers):
     """The pairs of numerator and denominator; a copy, so what was handed in stays as it was."""
     return [(numbers[k], numbers[k + 1]) for k in range(0, len(numbers), 2)]
@@ -37,9 +43,19 @@ def polynomial_told(p):
     return told
 
 
+def number_told(p, root):
+    """The polynomial, handed over with whole coefficients, then the number of its root."""
+    return polynomial_told([(a, 1) for a in p]) + [root]
+
+
 def answered(numbers):
     return [0] + numbers
 
 
 def refused(reason):
     return [9, reason]
+
+
+def no_number(operand):
+    """The refusal of an operand, 0 or 1, that is no number."""
+    return [9, 3, operand]

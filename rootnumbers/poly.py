@@ -88,9 +88,14 @@ def derivative(p):
     return [times((k, 1), a) for k, a in enumerate(p)][1:]
 
 
+def whole_square_free_part(p):
+    """The square-free part of p (not 0), as whole coefficients."""
+    return square_free(whole_part(p))
+
+
 def square_free_part(p):
     """The part of p (not 0) over the common divisor of p and its derivative."""
-    return of_whole(square_free(whole_part(p)))
+    return of_whole(whole_square_free_part(p))
 
 
 def value_at(p, place):

@@ -1,10 +1,17 @@
 """The calls: each takes whole numbers and lists of them, and gives back a list of whole numbers."""
 
-from rootnumbers.handed import answered, coefficients_of, is_fraction, is_polynomial, polynomial_told, refused
+from rootnumbers.handed import answered, coefficients_of, is_fraction, is_polynomial, is_root, no_number, number_told
+from rootnumbers.handed import polynomial_told, refused
+from rootnumbers.joined import QUOTIENT, reckoned
 from rootnumbers.poly import common_divisor, content, derivative, of_whole, part, poly_difference, poly_product
 from rootnumbers.poly import poly_resultant, poly_sum, quotient_and_rest, square_free_part, value_at, whole_part
-from rootnumbers.real import roots_upto, sturm_chain
-from rootnumbers.whole import rows_of
+from rootnumbers.poly import whole_square_free_part
+from rootnumbers.ratio import ZERO
+from rootnumbers.real import cell_of, how_many_roots, is_at, roots_upto, sturm_chain
+from rootnumbers.whole import minus_place, rows_of
+
+# Where the polynomial told could be of a greater degree than this, a call is refused 4.
+MOST_DEGREE = 16
 
 
 def two(op, p, q):
@@ -82,8 +89,70 @@ def count(a_top, a_bottom, b_top, b_bottom, p):
         return refused(1)
     if p == []:
         return refused(2)
-    chain = sturm_chain(coefficients_of(p))
+    chain = chain_of(p)
     upto_a = roots_upto(chain, (a_top, a_bottom))
     upto_b = roots_upto(chain, (b_top, b_bottom))
     # Below 0 where b is below a and roots lie between.
     return answered([max(0, upto_b - upto_a)])
+
+
+def chain_of(p):
+    """The chain of the square-free part of p, which is handed in and not 0."""
+    return sturm_chain(whole_square_free_part(coefficients_of(p)))
+
+
+def number_of(root_number, p):
+    """The number of what is handed in, or None if there is none."""
+    if p == []:
+        return None
+    chain = chain_of(p)
+    return (chain, root_number) if root_number < how_many_roots(chain) else None
+
+
+def cells(p):
+    """How many real roots p has, and of each, rising, the two ends of its cell."""
+    if not is_polynomial(p):
+        return refused(1)
+    if p == []:
+        return refused(2)
+    chain = chain_of(p)
+    size = how_many_roots(chain)
+    told = [size]
+    for k in range(size):
+        for end in cell_of((chain, k)):
+            told.extend(list(end))
+    return answered(told)
+
+
+def reckon(op, x_root, y_root, x, y):
+    """0 x + y; 1 x - y; 2 x y; 3 x / y."""
+    if op > 3 or not is_root(x_root, x) or not is_root(y_root, y):
+        return refused(1)
+    x_number = number_of(x_root, x)
+    if x_number is None:
+        return no_number(0)
+    y_number = number_of(y_root, y)
+    if y_number is None:
+        return no_number(1)
+    if op == QUOTIENT and is_at(y_number, ZERO):
+        return refused(2)
+    if degree_of(x_number) * degree_of(y_number) > MOST_DEGREE:
+        return refused(4)
+    told = reckoned(op, x_number, y_number)
+    return answered(number_told(told[0], told[1]))
+
+
+def degree_of(number):
+    """The degree of the square-free part of the number's polynomial."""
+    return len(number[0][0]) - 1
+
+
+def minus(x_root, x):
+    """Minus x."""
+    if not is_root(x_root, x):
+        return refused(1)
+    number = number_of(x_root, x)
+    if number is None:
+        return no_number(0)
+    chain = number[0]
+    return answered(number_told(minus_place(chain[0]), how_many_roots(chain) - 1 - x_root))

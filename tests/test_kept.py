@@ -2,7 +2,7 @@
 
 import unittest
 
-from rootnumbers.roots import at, count, one, resultant, rows, two
+from rootnumbers.roots import at, cells, count, minus, one, reckon, resultant, rows, two
 from tests.helper import SAMPLES, flat
 
 
@@ -32,6 +32,11 @@ def calls():
         yield 1, lambda p, top=top, bottom=bottom: count(top, bottom, 5, 1, p)
     yield 2, resultant
     yield 1, rows
+    yield 1, cells
+    for op in range(5):
+        yield 2, lambda x, y, op=op: reckon(op, 0, 0, x, y)
+    for root in (0, 1, 1001):
+        yield 1, lambda x, root=root: minus(root, x)
 
 
 def every_case():
@@ -62,6 +67,13 @@ class Kept(unittest.TestCase):
             both = list(numbers)
             self.assertEqual(resultant(both, both), resultant(list(numbers), list(numbers)))
             self.assertEqual(both, numbers)
+
+    def test_one_number_handed_in_twice(self):
+        for op in range(4):
+            for numbers in LISTS:
+                both = list(numbers)
+                self.assertEqual(reckon(op, 0, 0, both, both), reckon(op, 0, 0, list(numbers), list(numbers)))
+                self.assertEqual(both, numbers)
 
     def test_nothing_is_kept(self):
         for call, lists in every_case():

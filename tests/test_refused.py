@@ -2,9 +2,10 @@
 
 import unittest
 
-from rootnumbers.roots import at, count, one, resultant, rows, two
+from rootnumbers.roots import at, cells, count, minus, one, reckon, resultant, rows, two
 from tests.helper import flat
 
+# With two real roots.
 GOOD = flat(1, "2/3", -4)
 
 BAD_FRACTIONS = [
@@ -44,21 +45,24 @@ def bad_polynomials():
     return bad
 
 
-# Each argument's sort: an op up to a greatest one, the two numbers of a fraction, a polynomial.
+# Each argument's sort: a whole number up to a greatest one, the two numbers of a fraction, a polynomial.
 CALLS = [
-    (two, (("op", 5), ("polynomial",), ("polynomial",))),
-    (one, (("op", 2), ("polynomial",))),
+    (two, (("upto", 5), ("polynomial",), ("polynomial",))),
+    (one, (("upto", 2), ("polynomial",))),
     (at, (("fraction",), ("polynomial",))),
     (resultant, (("polynomial",), ("polynomial",))),
     (rows, (("polynomial",),)),
     (count, (("fraction",), ("fraction",), ("polynomial",))),
+    (cells, (("polynomial",),)),
+    (reckon, (("upto", 3), ("upto", 1000), ("upto", 1000), ("polynomial",), ("polynomial",))),
+    (minus, (("upto", 1000), ("polynomial",))),
 ]
 
 
 def bad_ones(sort):
     """What may not stand at an argument of this sort, as rows of whole arguments."""
-    if sort[0] == "op":
-        return [[sort[1] + 1], [sort[1] + 2], [256], [4294967295]]
+    if sort[0] == "upto":
+        return [[sort[1] + 1], [sort[1] + 2], [sort[1] + 256], [4294967295]]
     if sort[0] == "fraction":
         return [list(pair) for pair in BAD_FRACTIONS]
     return [[numbers] for numbers in bad_polynomials()]
@@ -66,7 +70,7 @@ def bad_ones(sort):
 
 def good_ones(sort):
     """What may stand there; the last of them leads to a later refusal where there is one."""
-    if sort[0] == "op":
+    if sort[0] == "upto":
         return [[0], [sort[1]]]
     if sort[0] == "fraction":
         return [[-1, 2], [0, 1]]
@@ -95,6 +99,7 @@ class RefusedOne(unittest.TestCase):
         for op in range(6):
             self.assertEqual(two(op, GOOD, GOOD)[0], 0)
             self.assertEqual(one(op, GOOD)[0], 0 if op < 3 else 9)
+            self.assertEqual(reckon(op, 1, 0, GOOD, GOOD)[0], 0 if op < 4 else 9)
 
 
 class StillTaken(unittest.TestCase):
@@ -110,6 +115,9 @@ class StillTaken(unittest.TestCase):
             self.assertEqual(resultant([1, 1, 1, 1], p), [0, top, bottom])
             self.assertEqual(rows(p), [0, top, bottom, 0])
             self.assertEqual(count(top, bottom, top, bottom, p), [0, 0])
+            self.assertEqual(cells(p), [0, 0])
+            self.assertEqual(minus(0, [0, 1] + p), [0, 2, 0, 1, 1, 1, 0])
+            self.assertEqual(reckon(0, 0, 0, [0, 1] + p, [0, 1] + p), [0, 2, 0, 1, 1, 1, 0])
 
     def test_nine_coefficients(self):
         p = [1, 1] * 9
@@ -121,6 +129,16 @@ class StillTaken(unittest.TestCase):
         self.assertEqual(resultant([-1, 1, 1, 1], p), [0, 9, 1])
         self.assertEqual(rows(p), [0, 1, 1, 1, 1, 9] + p)
         self.assertEqual(count(-9, 1, 9, 1, p), [0, 0])
+        self.assertEqual(cells(p), [0, 0])
+        p = [0, 1] * 8 + [1, 1]
+        self.assertEqual(minus(0, p), [0, 2, 0, 1, 1, 1, 0])
+        self.assertEqual(reckon(0, 0, 0, p, p), [0, 2, 0, 1, 1, 1, 0])
+
+    def test_root_upto_a_thousand(self):
+        for root in (2, 999, 1000):
+            self.assertEqual(minus(root, GOOD), [9, 3, 0])
+            self.assertEqual(reckon(0, root, 0, GOOD, GOOD), [9, 3, 0])
+            self.assertEqual(reckon(0, 0, root, GOOD, GOOD), [9, 3, 1])
 
 
 class OneAheadOfTwo(unittest.TestCase):
@@ -138,9 +156,10 @@ class OneAheadOfTwo(unittest.TestCase):
             self.assertEqual(one(op, [0, 1]), [9, 1])
         self.assertEqual(one(3, []), [9, 1])
 
-    def test_rows_and_count(self):
-        self.assertEqual(rows([]), [9, 2])
-        self.assertEqual(rows([0, 1]), [9, 1])
+    def test_rows_cells_and_count(self):
+        for call in (rows, cells):
+            self.assertEqual(call([]), [9, 2])
+            self.assertEqual(call([0, 1]), [9, 1])
         self.assertEqual(count(0, 1, 1, 1, []), [9, 2])
         for top, bottom in BAD_FRACTIONS:
             self.assertEqual(count(top, bottom, 1, 1, []), [9, 1])
