@@ -3,12 +3,14 @@
 from rootnumbers.handed import answered, coefficients_of, is_fraction, is_polynomial, is_root, no_number, number_told
 from rootnumbers.handed import polynomial_told, refused
 from rootnumbers.joined import QUOTIENT, reckoned
+from rootnumbers.ordered import order_of, sign_at_number
 from rootnumbers.poly import common_divisor, content, derivative, of_whole, part, poly_difference, poly_product
 from rootnumbers.poly import poly_resultant, poly_sum, quotient_and_rest, square_free_part, value_at, whole_part
 from rootnumbers.poly import whole_square_free_part
 from rootnumbers.ratio import ZERO
 from rootnumbers.real import cell_of, how_many_roots, is_at, roots_upto, sturm_chain
-from rootnumbers.whole import minus_place, rows_of
+from rootnumbers.single import is_below_zero, minus_of, square_root_of
+from rootnumbers.whole import rows_of
 
 # Where the polynomial told could be of a greater degree than this, a call is refused 4.
 MOST_DEGREE = 16
@@ -154,5 +156,46 @@ def minus(x_root, x):
     number = number_of(x_root, x)
     if number is None:
         return no_number(0)
-    chain = number[0]
-    return answered(number_told(minus_place(chain[0]), how_many_roots(chain) - 1 - x_root))
+    told = minus_of(number)
+    return answered(number_told(told[0], told[1]))
+
+
+def root(x_root, x):
+    """The square root of x."""
+    if not is_root(x_root, x):
+        return refused(1)
+    number = number_of(x_root, x)
+    if number is None:
+        return no_number(0)
+    if is_below_zero(number):
+        return refused(2)
+    # As few coefficients as may be handed in never lead to this.
+    if 2 * degree_of(number) > MOST_DEGREE:
+        return refused(4)
+    told = square_root_of(number)
+    return answered(number_told(told[0], told[1]))
+
+
+def compare(x_root, y_root, x, y):
+    """0 x is less than y; 1 they are the same; 2 x is greater."""
+    if not is_root(x_root, x) or not is_root(y_root, y):
+        return refused(1)
+    x_number = number_of(x_root, x)
+    if x_number is None:
+        return no_number(0)
+    y_number = number_of(y_root, y)
+    if y_number is None:
+        return no_number(1)
+    return answered([1 + order_of(x_number, y_number)])
+
+
+def sign(x_root, p, x):
+    """0 if p's value at x is below 0; 1 if it is 0; 2 if it is above."""
+    if not is_polynomial(p) or not is_root(x_root, x):
+        return refused(1)
+    number = number_of(x_root, x)
+    if number is None:
+        return no_number(0)
+    if p == []:
+        return answered([1])
+    return answered([1 + sign_at_number(coefficients_of(p), number)])

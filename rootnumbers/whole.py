@@ -25,11 +25,6 @@ def whole_derivative(p):
     return [k * a for k, a in enumerate(p)][1:]
 
 
-def minus_place(p):
-    """The primitive polynomial of p(-z), where p is primitive."""
-    return primitive([a if k % 2 == 0 else -a for k, a in enumerate(p)])
-
-
 def scaled_rest(p, q):
     """The rest by q of p times the size of q's lead, once for each step of the division: so it stays whole."""
     rest = list(p)

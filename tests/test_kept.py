@@ -2,7 +2,7 @@
 
 import unittest
 
-from rootnumbers.roots import at, cells, count, minus, one, reckon, resultant, rows, two
+from rootnumbers.roots import at, cells, compare, count, minus, one, reckon, resultant, root, rows, sign, two
 from tests.helper import SAMPLES, flat
 
 
@@ -35,8 +35,11 @@ def calls():
     yield 1, cells
     for op in range(5):
         yield 2, lambda x, y, op=op: reckon(op, 0, 0, x, y)
-    for root in (0, 1, 1001):
-        yield 1, lambda x, root=root: minus(root, x)
+    for which in (0, 1, 1001):
+        yield 1, lambda x, which=which: minus(which, x)
+        yield 1, lambda x, which=which: root(which, x)
+        yield 2, lambda p, x, which=which: sign(which, p, x)
+    yield 2, lambda x, y: compare(0, 0, x, y)
 
 
 def every_case():
@@ -74,6 +77,12 @@ class Kept(unittest.TestCase):
                 both = list(numbers)
                 self.assertEqual(reckon(op, 0, 0, both, both), reckon(op, 0, 0, list(numbers), list(numbers)))
                 self.assertEqual(both, numbers)
+
+        for numbers in LISTS:
+            both = list(numbers)
+            self.assertEqual(compare(0, 0, both, both), compare(0, 0, list(numbers), list(numbers)))
+            self.assertEqual(sign(0, both, both), sign(0, list(numbers), list(numbers)))
+            self.assertEqual(both, numbers)
 
     def test_nothing_is_kept(self):
         for call, lists in every_case():

@@ -2,11 +2,11 @@
 
 import unittest
 
-from rootnumbers.roots import at, cells, count, minus, one, reckon, resultant, rows, two
+from rootnumbers.roots import at, cells, compare, count, minus, one, reckon, resultant, root, rows, sign, two
 from tests.helper import flat
 
-# With two real roots.
-GOOD = flat(1, "2/3", -4)
+# With two real roots, both above 0.
+GOOD = flat(-1, "7/3", "-4/3")
 
 BAD_FRACTIONS = [
     # a denominator 0 or below
@@ -56,6 +56,9 @@ CALLS = [
     (cells, (("polynomial",),)),
     (reckon, (("upto", 3), ("upto", 1000), ("upto", 1000), ("polynomial",), ("polynomial",))),
     (minus, (("upto", 1000), ("polynomial",))),
+    (root, (("upto", 1000), ("polynomial",))),
+    (compare, (("upto", 1000), ("upto", 1000), ("polynomial",), ("polynomial",))),
+    (sign, (("upto", 1000), ("polynomial",), ("polynomial",))),
 ]
 
 
@@ -118,6 +121,9 @@ class StillTaken(unittest.TestCase):
             self.assertEqual(cells(p), [0, 0])
             self.assertEqual(minus(0, [0, 1] + p), [0, 2, 0, 1, 1, 1, 0])
             self.assertEqual(reckon(0, 0, 0, [0, 1] + p, [0, 1] + p), [0, 2, 0, 1, 1, 1, 0])
+            self.assertEqual(root(0, [0, 1] + p), [0, 2, 0, 1, 1, 1, 0])
+            self.assertEqual(compare(0, 0, [0, 1] + p, [0, 1] + p), [0, 1])
+            self.assertEqual(sign(0, p, [0, 1] + p), [0, 2 if top > 0 else 0])
 
     def test_nine_coefficients(self):
         p = [1, 1] * 9
@@ -133,12 +139,19 @@ class StillTaken(unittest.TestCase):
         p = [0, 1] * 8 + [1, 1]
         self.assertEqual(minus(0, p), [0, 2, 0, 1, 1, 1, 0])
         self.assertEqual(reckon(0, 0, 0, p, p), [0, 2, 0, 1, 1, 1, 0])
+        self.assertEqual(root(0, p), [0, 2, 0, 1, 1, 1, 0])
+        self.assertEqual(compare(0, 0, p, p), [0, 1])
+        self.assertEqual(sign(0, p, p), [0, 1])
 
     def test_root_upto_a_thousand(self):
-        for root in (2, 999, 1000):
-            self.assertEqual(minus(root, GOOD), [9, 3, 0])
-            self.assertEqual(reckon(0, root, 0, GOOD, GOOD), [9, 3, 0])
-            self.assertEqual(reckon(0, 0, root, GOOD, GOOD), [9, 3, 1])
+        for which in (2, 999, 1000):
+            self.assertEqual(minus(which, GOOD), [9, 3, 0])
+            self.assertEqual(root(which, GOOD), [9, 3, 0])
+            self.assertEqual(sign(which, GOOD, GOOD), [9, 3, 0])
+            self.assertEqual(reckon(0, which, 0, GOOD, GOOD), [9, 3, 0])
+            self.assertEqual(reckon(0, 0, which, GOOD, GOOD), [9, 3, 1])
+            self.assertEqual(compare(which, 0, GOOD, GOOD), [9, 3, 0])
+            self.assertEqual(compare(0, which, GOOD, GOOD), [9, 3, 1])
 
 
 class OneAheadOfTwo(unittest.TestCase):
