@@ -43,9 +43,9 @@ def polynomial_told(p):
     return told
 
 
-def number_told(p, root):
-    """The polynomial, handed over with whole coefficients, then the number of its root."""
-    return polynomial_told([(a, 1) for a in p]) + [root]
+def number_told(number):
+    """Of a pair of a polynomial with whole coefficients and a root's number: the polynomial, then that."""
+    return polynomial_told([(a, 1) for a in number[0]]) + [number[1]]
 
 
 def answered(numbers):

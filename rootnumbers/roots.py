@@ -7,13 +7,14 @@ from rootnumbers.ordered import order_of, sign_at_number
 from rootnumbers.poly import common_divisor, content, derivative, of_whole, part, poly_difference, poly_product
 from rootnumbers.poly import poly_resultant, poly_sum, quotient_and_rest, square_free_part, value_at, whole_part
 from rootnumbers.poly import whole_square_free_part
-from rootnumbers.ratio import ZERO
-from rootnumbers.real import cell_of, how_many_roots, is_at, roots_upto, sturm_chain
+from rootnumbers.ratio import ZERO, whole_power
+from rootnumbers.real import cell_of, floor_of, fraction_of, how_many_roots, is_at, roots_upto, sturm_chain
 from rootnumbers.single import is_below_zero, minus_of, square_root_of
 from rootnumbers.whole import rows_of
 
 # Where the polynomial told could be of a greater degree than this, a call is refused 4.
 MOST_DEGREE = 16
+MOST_BITS = 256
 
 
 def two(op, p, q):
@@ -140,8 +141,7 @@ def reckon(op, x_root, y_root, x, y):
         return refused(2)
     if degree_of(x_number) * degree_of(y_number) > MOST_DEGREE:
         return refused(4)
-    told = reckoned(op, x_number, y_number)
-    return answered(number_told(told[0], told[1]))
+    return answered(number_told(reckoned(op, x_number, y_number)))
 
 
 def degree_of(number):
@@ -156,8 +156,7 @@ def minus(x_root, x):
     number = number_of(x_root, x)
     if number is None:
         return no_number(0)
-    told = minus_of(number)
-    return answered(number_told(told[0], told[1]))
+    return answered(number_told(minus_of(number)))
 
 
 def root(x_root, x):
@@ -172,8 +171,7 @@ def root(x_root, x):
     # As few coefficients as may be handed in never lead to this.
     if 2 * degree_of(number) > MOST_DEGREE:
         return refused(4)
-    told = square_root_of(number)
-    return answered(number_told(told[0], told[1]))
+    return answered(number_told(square_root_of(number)))
 
 
 def compare(x_root, y_root, x, y):
@@ -199,3 +197,24 @@ def sign(x_root, p, x):
     if p == []:
         return answered([1])
     return answered([1 + sign_at_number(coefficients_of(p), number)])
+
+
+def digits(x_root, bits, x):
+    """The greatest whole number that is not above x times 2 to the bits."""
+    if bits > MOST_BITS or not is_root(x_root, x):
+        return refused(1)
+    number = number_of(x_root, x)
+    if number is None:
+        return no_number(0)
+    return answered([floor_of(number, whole_power(2, bits))])
+
+
+def fraction(x_root, x):
+    """x, if it is a fraction."""
+    if not is_root(x_root, x):
+        return refused(1)
+    number = number_of(x_root, x)
+    if number is None:
+        return no_number(0)
+    found = fraction_of(number)
+    return refused(5) if found is None else answered(list(found))

@@ -2,7 +2,8 @@
 
 import unittest
 
-from rootnumbers.roots import at, cells, compare, count, minus, one, reckon, resultant, root, rows, sign, two
+from rootnumbers.roots import at, cells, compare, count, digits, fraction, minus, one, reckon, resultant, root, rows
+from rootnumbers.roots import sign, two
 from tests.helper import SAMPLES, flat
 
 
@@ -38,6 +39,8 @@ def calls():
     for which in (0, 1, 1001):
         yield 1, lambda x, which=which: minus(which, x)
         yield 1, lambda x, which=which: root(which, x)
+        yield 1, lambda x, which=which: fraction(which, x)
+        yield 1, lambda x, which=which: digits(which, 20, x)
         yield 2, lambda p, x, which=which: sign(which, p, x)
     yield 2, lambda x, y: compare(0, 0, x, y)
 

@@ -2,7 +2,8 @@
 
 import unittest
 
-from rootnumbers.roots import at, cells, compare, count, minus, one, reckon, resultant, root, rows, sign, two
+from rootnumbers.roots import at, cells, compare, count, digits, fraction, minus, one, reckon, resultant, root, rows
+from rootnumbers.roots import sign, two
 from tests.helper import flat
 
 # With two real roots, both above 0.
@@ -59,6 +60,8 @@ CALLS = [
     (root, (("upto", 1000), ("polynomial",))),
     (compare, (("upto", 1000), ("upto", 1000), ("polynomial",), ("polynomial",))),
     (sign, (("upto", 1000), ("polynomial",), ("polynomial",))),
+    (digits, (("upto", 1000), ("upto", 256), ("polynomial",))),
+    (fraction, (("upto", 1000), ("polynomial",))),
 ]
 
 
@@ -124,6 +127,8 @@ class StillTaken(unittest.TestCase):
             self.assertEqual(root(0, [0, 1] + p), [0, 2, 0, 1, 1, 1, 0])
             self.assertEqual(compare(0, 0, [0, 1] + p, [0, 1] + p), [0, 1])
             self.assertEqual(sign(0, p, [0, 1] + p), [0, 2 if top > 0 else 0])
+            self.assertEqual(digits(0, 256, [0, 1] + p), [0, 0])
+            self.assertEqual(fraction(0, [-top, bottom, 1, 1]), [0, top, bottom])
 
     def test_nine_coefficients(self):
         p = [1, 1] * 9
@@ -142,12 +147,16 @@ class StillTaken(unittest.TestCase):
         self.assertEqual(root(0, p), [0, 2, 0, 1, 1, 1, 0])
         self.assertEqual(compare(0, 0, p, p), [0, 1])
         self.assertEqual(sign(0, p, p), [0, 1])
+        self.assertEqual(digits(0, 256, p), [0, 0])
+        self.assertEqual(fraction(0, p), [0, 0, 1])
 
     def test_root_upto_a_thousand(self):
         for which in (2, 999, 1000):
             self.assertEqual(minus(which, GOOD), [9, 3, 0])
             self.assertEqual(root(which, GOOD), [9, 3, 0])
             self.assertEqual(sign(which, GOOD, GOOD), [9, 3, 0])
+            self.assertEqual(digits(which, 256, GOOD), [9, 3, 0])
+            self.assertEqual(fraction(which, GOOD), [9, 3, 0])
             self.assertEqual(reckon(0, which, 0, GOOD, GOOD), [9, 3, 0])
             self.assertEqual(reckon(0, 0, which, GOOD, GOOD), [9, 3, 1])
             self.assertEqual(compare(which, 0, GOOD, GOOD), [9, 3, 0])
@@ -177,6 +186,47 @@ class OneAheadOfTwo(unittest.TestCase):
         for top, bottom in BAD_FRACTIONS:
             self.assertEqual(count(top, bottom, 1, 1, []), [9, 1])
             self.assertEqual(count(0, 1, top, bottom, []), [9, 1])
+
+
+class InTheirOrder(unittest.TestCase):
+    """Arguments for which several refusals would hold, each call's in turn: always the first of them is given."""
+
+    eighth = flat(-8, 0, 0, 0, 0, 0, 0, 0, 1)
+    with_zero = flat(0, -3, 0, 1)
+
+    def test_reckon(self):
+        for op, x_root, y_root, x, y, expected in (
+            (4, 1001, 1001, [0, 1], [0, 1], [9, 1]),
+            (4, 9, 9, [], [], [9, 1]),
+            (3, 1001, 0, [], [], [9, 1]),
+            (3, 9, 1001, self.eighth, self.with_zero, [9, 1]),
+            (3, 9, 9, self.eighth, self.with_zero, [9, 3, 0]),
+            (3, 9, 1, self.eighth, self.with_zero, [9, 3, 0]),
+            (3, 0, 9, self.eighth, self.with_zero, [9, 3, 1]),
+            (3, 0, 0, self.eighth, [], [9, 3, 1]),
+            (3, 0, 1, self.eighth, self.with_zero, [9, 2]),
+            (3, 0, 2, self.eighth, self.with_zero, [9, 4]),
+            (2, 0, 1, self.eighth, self.with_zero, [9, 4]),
+        ):
+            self.assertEqual(reckon(op, x_root, y_root, x, y), expected)
+
+    def test_one_number(self):
+        for call in (minus, root, fraction, lambda which, x: digits(which, 256, x), lambda which, x: sign(which, [], x)):
+            self.assertEqual(call(1001, [0, 1]), [9, 1])
+            self.assertEqual(call(1001, self.eighth), [9, 1])
+            self.assertEqual(call(9, [1, 1, 0, 1]), [9, 1])
+            self.assertEqual(call(9, self.eighth), [9, 3, 0])
+            self.assertEqual(call(0, []), [9, 3, 0])
+        self.assertEqual(root(0, self.eighth), [9, 2])
+        self.assertEqual(fraction(0, self.eighth), [9, 5])
+        self.assertEqual(digits(9, 257, self.eighth), [9, 1])
+
+    def test_compare(self):
+        self.assertEqual(compare(9, 1001, self.eighth, self.eighth), [9, 1])
+        self.assertEqual(compare(9, 9, self.eighth, self.eighth), [9, 3, 0])
+        self.assertEqual(compare(0, 9, self.eighth, self.eighth), [9, 3, 1])
+        # No bound of degrees here.
+        self.assertEqual(compare(0, 1, self.eighth, self.eighth), [0, 0])
 
 
 if __name__ == "__main__":
