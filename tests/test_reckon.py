@@ -122,6 +122,10 @@ class Reckon(unittest.TestCase):
         # A divisor very near to 0.
         self.check(QUOTIENT, ([-1, 1], 0), ([0, -1, BIG], 1), [-BIG, 1], 0)
         self.check(QUOTIENT, ([-1, 1], 0), ([1, BIG], 0), [BIG, 1], 0)
+        self.check(QUOTIENT, ([0, 1], 0), ([-1, BIG], 0), [0, 1], 0)
+        self.check(QUOTIENT, ([0, 1], 0), ([1, BIG], 0), [0, 1], 0)
+        self.check(QUOTIENT, ([0, -1, 0, 1], 1), (["-1/999999", 0, 999999], 1), [0, -BIG ** 2, 0, 1], 1)
+        self.check(QUOTIENT, ([0, -1, 0, 1], 1), (["-1/999999", 0, 999999], 0), [0, -BIG ** 2, 0, 1], 1)
 
     def test_broken_and_leads_below_zero(self):
         x, y = ["1/2", 0, "-1/4"], [1, 0, "-1/3"]
